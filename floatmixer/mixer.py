@@ -1,9 +1,12 @@
 """The mixer: reads the calls out of one list, and tells the answers in another."""
 
 from floatmixer.echoes import PLACES, EchoLine
-from floatmixer.rows import mixed, through_matrix, windowed
+from floatmixer.looks import peak, squares_told
+from floatmixer.rows import held, mixed, shifted_sums, through_matrix, windowed
 from floatmixer.singles import told
+from floatmixer.turns import turned
 from floatmixer.voices import Voice
+from floatmixer.wholes import from_wholes, to_wholes
 
 VOICES = 16
 DONE = 0
@@ -96,6 +99,43 @@ def answer_matrix(mixer, reader):
     return [DONE] + told(through_matrix(n, m, x))
 
 
+def answer_hold(mixer, reader):
+    most = reader.number()
+    x = reader.row()
+    return [DONE] + told(held(most, x))
+
+
+def answer_look(mixer, reader):
+    x = reader.row()
+    return [DONE, peak(x), squares_told(x)]
+
+
+def answer_to16(mixer, reader):
+    # These are whole numbers: none of them stands for a float that is no number.
+    return [DONE] + to_wholes(reader.row())
+
+
+def answer_from16(mixer, reader):
+    return [DONE] + told(from_wholes(reader.row()))
+
+
+def answer_shifts(mixer, reader):
+    lags = reader.number()
+    a = reader.row()
+    b = reader.row()
+    return [DONE] + told(shifted_sums(lags, a, b))
+
+
+def answer_turn(mixer, reader):
+    k = reader.number()
+    real = reader.row()
+    other = reader.row()
+    table_real = reader.row()
+    table_other = reader.row()
+    parts = turned(k, real, other, table_real, table_other)
+    return [DONE] + told(parts[0]) + told(parts[1])
+
+
 BY_NUMBER = {
     1: answer_clear,
     2: answer_voice,
@@ -104,6 +144,12 @@ BY_NUMBER = {
     5: answer_mix,
     6: answer_window,
     7: answer_matrix,
+    8: answer_hold,
+    9: answer_look,
+    10: answer_to16,
+    11: answer_from16,
+    12: answer_shifts,
+    13: answer_turn,
 }
 
 

@@ -1,7 +1,7 @@
 """What is done to rows of samples alone, without anything that is kept."""
 
-from floatmixer.singles import from_whole, plus, times
 from floatmixer.products import sliding_sums
+from floatmixer.singles import SIGN, from_whole, is_below, plus, times
 
 
 def mixed(gain, step, a, b):
@@ -33,3 +33,22 @@ def matrix_sum(factors, numbers):
     for k in range(1, 4):
         total = plus(total, times(factors[k], numbers[k]))
     return total
+
+
+def held(most, x):
+    """The row x with no number above most; of the others none below -most."""
+    least = most ^ SIGN
+    return [held_between(least, most, bits) for bits in x]
+
+
+def held_between(least, most, bits):
+    # What is above most isn't looked at again: where most is below zero, most is below least too.
+    if is_below(most, bits):
+        return most
+    if is_below(bits, least):
+        return least
+    return bits
+
+
+def shifted_sums(lags, a, b):
+    return sliding_sums(a, b, lags)

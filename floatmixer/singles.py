@@ -4,6 +4,8 @@ Every finite single is a whole number of steps of 2 ** -149, the least single ab
 products are worked out exactly on whole numbers of steps, and are then rounded once.
 """
 
+from floatmixer.rounding import nearest
+
 SIGN = 0x80000000
 SIZE = 0x7FFFFFFF
 INFINITY = 0x7F800000
@@ -12,10 +14,8 @@ LEADING = 0x800000
 NO_NUMBER = 0x7FC00000
 TOLD_NO_NUMBER = -1
 PRECISION = 24
-# A product of steps by steps counts steps that are finer by this many bits.
-PRODUCT_FINER = 149
-# The largest single has this many bits as steps; what has more after rounding is infinite.
-MOST_BITS = 277
+# The number 1 is 2 ** 149 steps; so a product of steps by steps counts steps that are finer by this many bits.
+FINER = 149
 
 
 def is_no_number(bits):
@@ -45,13 +45,8 @@ def rounded(count, finer):
 
     It may be beyond the largest single: there it stands for an infinity.
     """
-    drop = count.bit_length() - PRECISION
-    if drop < finer:
-        drop = finer
-    if drop > 0:
-        # One less than half, and one more where the last kept bit is odd: so a tie goes to the even one.
-        count = (count + (1 << (drop - 1)) - 1 + (count >> drop & 1)) >> drop
-    return count << (drop - finer)
+    drop = max(count.bit_length() - PRECISION, finer)
+    return nearest(count, drop) << (drop - finer)
 
 
 def single(count):
@@ -91,7 +86,7 @@ def minus(a, b):
 def times(a, b):
     if not (is_finite(a) and is_finite(b)):
         return times_not_finite(a, b)
-    product = rounded(abs(steps(a) * steps(b)), PRODUCT_FINER)
+    product = rounded(abs(steps(a) * steps(b)), FINER)
     # The sign is put on at the end, as a product that is zero has one too.
     return (a ^ b) & SIGN | single(product)
 
@@ -117,4 +112,4 @@ def place_in_order(bits):
 
 def from_whole(number):
     """The single nearest to a whole number."""
-    return single(rounded(number << PRODUCT_FINER, 0))
+    return single(rounded(number << FINER, 0))

@@ -17,6 +17,11 @@ INFINITY = 0x7F800000
 MINUS_INFINITY = 0xFF800000
 SIGN = 0x80000000
 NAN = 0x7FC00000
+# The square of the first is just beside the second's size, to which it is rounded.
+ROOT = 0x3F800800
+MINUS_ROUNDED_SQUARE = 0xBF801000
+# The next single above is greater by 2.
+BIG = 16777216.0
 NANS = (0x7F800001, 0x7FBFFFFF, 0x7FC00000, 0x7FFFFFFF, 0xFF800001, 0xFFBFFFFF, 0xFFC00000, 0xFFFFFFFF, 0x7FC12345)
 
 EDGES = (
@@ -26,6 +31,17 @@ EDGES = (
     0x7E800000, 0x7F000000, 0x7F7FFFFE, LARGEST, INFINITY,
 )
 BOTH_SIGNS_OF_EDGES = EDGES + tuple(bits | SIGN for bits in EDGES)
+
+
+def kinds_of_numbers(source):
+    """Ways to draw a number: near 1, from the edges, near 2 ** 64, among the small ones, any bits."""
+    return (
+        lambda: bits_of(source.uniform(-2, 2)),
+        lambda: source.choice(BOTH_SIGNS_OF_EDGES),
+        lambda: source.getrandbits(1) << 31 | source.randint(0x5E000000, 0x61000000),
+        lambda: source.getrandbits(1) << 31 | source.randint(0, 0x20000000),
+        lambda: source.getrandbits(32),
+    )
 
 
 def clear():
@@ -60,6 +76,30 @@ def matrix(n, m, x):
     return [7, n] + row(m) + row(x)
 
 
+def hold(most, x):
+    return [8, most] + row(x)
+
+
+def look(x):
+    return [9] + row(x)
+
+
+def to16(x):
+    return [10] + row(x)
+
+
+def from16(x):
+    return [11] + row(x)
+
+
+def shifts(lags, a, b):
+    return [12, lags] + row(a) + row(b)
+
+
+def turn(k, re, im, wre, wim):
+    return [13, k] + row(re) + row(im) + row(wre) + row(wim)
+
+
 def answers_of(*calls):
     """The answers to a clear and the calls behind it, each as a list; that of the clear is left out."""
     result = answers(clear() + [number for call in calls for number in call])
@@ -90,6 +130,10 @@ def bits_of(number):
     return struct.unpack("<I", packed)[0]
 
 
+def bits_of_double(number):
+    return struct.unpack("<Q", struct.pack("<d", number))[0]
+
+
 def singles(*numbers):
     return [bits_of(number) for number in numbers]
 
@@ -114,7 +158,7 @@ def told(numbers):
 
 
 class ModelMixer:
-    """The seven calls once more, written from the document's words with Python's own floats."""
+    """The calls once more, written from the document's words with Python's own floats."""
 
     def __init__(self):
         self.p = [[ZERO] * 9 for _ in range(16)]
@@ -183,3 +227,62 @@ class ModelMixer:
                 parts = [multiply(m[4 * k + j], x[j * n + i]) for j in range(4)]
                 result[k * n + i] = add(add(add(parts[0], parts[1]), parts[2]), parts[3])
         return [0] + told(result)
+
+    def hold(self, most, x):
+        result = []
+        for bits in x:
+            if value(bits) > value(most):
+                bits = most
+            elif value(bits) < -value(most):
+                bits = bits_of(-value(most))
+            result.append(bits)
+        return [0] + told(result)
+
+    def look(self, x):
+        peak = 0.0
+        sums = [0.0] * 4
+        for place, bits in enumerate(x):
+            if abs(value(bits)) > peak:
+                peak = abs(value(bits))
+            sums[place % 4] += value(bits) * value(bits)
+        squares = (sums[0] + sums[1]) + (sums[2] + sums[3])
+        return [0, bits_of(peak), -1 if math.isnan(squares) else bits_of_double(squares)]
+
+    def to16(self, x):
+        result = []
+        for bits in x:
+            number = value(bits) * 32768
+            if math.isnan(number):
+                result.append(0)
+            else:
+                # Python's round takes halves to the even one too.
+                result.append(round(min(max(number, -32768.0), 32767.0)))
+        return [0] + result
+
+    def from16(self, x):
+        return [0] + told([bits_of(number / 32768) for number in x])
+
+    def shifts(self, lags, a, b):
+        sums = []
+        for lag in range(lags):
+            total = ZERO
+            for k, bits in enumerate(a):
+                total = add(total, multiply(bits, b[lag + k]))
+            sums.append(total)
+        return [0] + told(sums)
+
+    def turn(self, k, re, im, wre, wim):
+        size = 1 << k
+        order = [int(format(i, "b").zfill(k)[::-1], 2) for i in range(size)] if k else [0]
+        re = [re[i] for i in order]
+        im = [im[i] for i in order]
+        for level in range(k):
+            h = 1 << level
+            for i in range(size):
+                if i // h % 2 == 0:
+                    j = i % h * size // (2 * h)
+                    t_re = subtract(multiply(wre[j], re[i + h]), multiply(wim[j], im[i + h]))
+                    t_im = add(multiply(wre[j], im[i + h]), multiply(wim[j], re[i + h]))
+                    re[i], re[i + h] = add(re[i], t_re), subtract(re[i], t_re)
+                    im[i], im[i + h] = add(im[i], t_im), subtract(im[i], t_im)
+        return [0] + told(re) + told(im)

@@ -2,23 +2,8 @@ import random
 import unittest
 
 import helper
-from helper import (INFINITY, LARGEST, LEAST, MINUS_INFINITY, MINUS_ONE, MINUS_ZERO, NANS, ONE, SIGN, ZERO, answers_of,
-                    matrix, mix, singles, window)
-
-ROOT = 0x3F800800
-MINUS_ROUNDED_SQUARE = 0xBF801000
-BIG = 16777216.0
-
-
-def kinds_of_numbers(source):
-    """Ways to draw a number: near 1, from the edges, among the largest, any bits."""
-    return (
-        lambda: helper.bits_of(source.uniform(-2, 2)),
-        lambda: source.choice(helper.BOTH_SIGNS_OF_EDGES),
-        lambda: source.getrandbits(1) << 31 | source.randint(0x5E000000, 0x61000000),
-        lambda: source.getrandbits(1) << 31 | source.randint(0, 0x20000000),
-        lambda: source.getrandbits(32),
-    )
+from helper import (BIG, INFINITY, LARGEST, LEAST, MINUS_INFINITY, MINUS_ONE, MINUS_ROUNDED_SQUARE, MINUS_ZERO, NANS,
+                    ONE, ROOT, SIGN, ZERO, answers_of, kinds_of_numbers, matrix, mix, singles, window)
 
 
 class MixTest(unittest.TestCase):
